@@ -1,0 +1,1 @@
+"""Namechains: persons who call one another by names."""
