@@ -1,11 +1,14 @@
-"""The interface: each name stands in its file, each method in the body of its class."""
+"""The interface: each name stands in its file, each method in the body of its class, arguments have their names."""
 
 import ast
+import importlib
 import inspect
 import unittest
 from pathlib import Path
 
-from namechains import statements
+from namechains.books import Book
+from namechains.languages import Names
+from namechains.statements import Leave, Naming, Statement
 from tests.test_errors import ERRORS
 
 PACKAGE = Path(__file__).resolve().parent.parent / "namechains"
@@ -13,9 +16,53 @@ PACKAGE = Path(__file__).resolve().parent.parent / "namechains"
 LIMITS = ["LIMIT", "MAX_LETTERS", "MAX_NAMES", "MAX_ASKED", "MAX_STATEMENTS", "MAX_CHAINS", "MAX_TIMES"]
 
 CLASSES = {
-    "Statement": ["person", "days", "text", "is_of"],
-    "Naming": ["__init__", "name", "chain", "__eq__"],
-    "Leave": ["__init__", "subject", "tags", "times", "__eq__"],
+    "statements": {
+        "Statement": ["person", "days", "text", "is_of"],
+        "Naming": ["__init__", "name", "chain", "__eq__"],
+        "Leave": ["__init__", "subject", "tags", "times", "__eq__"],
+    },
+    "books": {
+        "Book": ["__init__", "statements", "persons", "names", "__len__", "__getitem__", "with_more", "without", "__eq__",
+                 "on", "changes"],
+        "Day": ["book", "number", "namings", "leaves", "__eq__"],
+    },
+    "languages": {
+        "Names": ["__init__", "of_table", "__or__", "__and__", "__sub__", "__eq__", "__contains__", "__bool__",
+                  "is_within", "table", "size", "least", "persons", "names", "count", "ordered", "headed", "difference",
+                  "loop"],
+    },
+}
+
+# The functions of each file with their arguments; those behind * by name only.
+FUNCTIONS = {
+    "meaning": {"means": "day chain", "table_of": "day"},
+    "papers": {"paper": "day chain person", "is_paper": "day chain person value"},
+    "times": {
+        "serves": "day chain person value", "days_of": "book chain person", "timeline": "book chain",
+        "paper_for": "book chain person stretch", "lasting": "day chain person", "relay": "day chain person",
+    },
+    "rewriting": {
+        "becomes": "day chain", "settled": "day names", "comes_of": "day one other", "forward": "day names",
+        "backward": "day names", "meanings": "day chain", "names_of": "day person", "is_complete": "day names",
+        "between": "day one other",
+    },
+    "futures": {
+        "frontier": "day chain closed * kept", "deciders": "day chain closed * kept",
+        "parted": "day one other closed * kept", "must_close": "day one other",
+        "can_come": "day chain person closed * kept", "sure": "day chain closed",
+        "is_never_paper": "day chain person closed value * kept", "never_paper": "day chain person closed * kept",
+        "together": "day chains closed * kept", "keep_apart": "day one other",
+    },
+    "equals": {
+        "needless": "day", "needless_now": "day", "lean": "day", "alike": "one other", "told_apart": "one other closed",
+    },
+}
+
+METHODS = {
+    Naming: "person name chain days", Leave: "person subject tags days times", Statement.is_of: "self number",
+    Book.on: "self day", Book.changes: "self", Names.of_table: "table", Names.is_within: "self other",
+    Names.count: "self number", Names.ordered: "self", Names.headed: "self chain", Names.difference: "self other",
+    Names.loop: "self",
 }
 
 
@@ -28,6 +75,25 @@ def classes_of(file_name):
 
 
 class Interface(unittest.TestCase):
+    def check_arguments(self, function, names):
+        """The arguments have these names, are passed by position or by name, and by name only behind a star."""
+        by_name_only = False
+        expected = []
+        for name in names.split():
+            if name == "*":
+                by_name_only = True
+            else:
+                expected.append((name, by_name_only))
+        parameters = inspect.signature(function).parameters.values()
+        kinds = (inspect.Parameter.POSITIONAL_OR_KEYWORD, inspect.Parameter.KEYWORD_ONLY)
+        self.assertEqual([(one.name, one.kind == kinds[1]) for one in parameters], expected)
+        for parameter in parameters:
+            self.assertIn(parameter.kind, kinds)
+            if parameter.name == "kept":
+                self.assertIs(parameter.default, True)
+            elif parameter.name not in ("days", "times"):
+                self.assertIs(parameter.default, inspect.Parameter.empty)
+
     def test_errors_are_defined_in_their_file(self):
         self.assertEqual(set(ERRORS) - set(classes_of("errors.py")), set())
 
@@ -35,20 +101,30 @@ class Interface(unittest.TestCase):
         assigned = [node.targets[0].id for node in body_of("limits.py") if isinstance(node, ast.Assign)]
         self.assertEqual(assigned, LIMITS)
 
-    def test_statements_have_their_methods_in_their_own_bodies(self):
-        found = classes_of("statements.py")
-        for name, methods in CLASSES.items():
-            own = [node.name for node in found[name].body if isinstance(node, ast.FunctionDef)]
-            with self.subTest(name):
-                self.assertEqual(set(methods) - set(own), set())
+    def test_classes_have_their_methods_in_their_own_bodies(self):
+        for file_name, classes in CLASSES.items():
+            found = classes_of(f"{file_name}.py")
+            for name, methods in classes.items():
+                own = [node.name for node in found[name].body if isinstance(node, ast.FunctionDef)]
+                with self.subTest(name):
+                    self.assertEqual(set(methods) - set(own), set())
+
+    def test_functions_are_defined_in_their_file(self):
+        for file_name, functions in FUNCTIONS.items():
+            own = [node.name for node in body_of(f"{file_name}.py") if isinstance(node, ast.FunctionDef)]
+            self.assertEqual(set(functions) - set(own), set())
 
     def test_arguments_have_the_listed_names(self):
-        for function, names in (
-            (statements.Naming, ["person", "name", "chain", "days"]),
-            (statements.Leave, ["person", "subject", "tags", "days", "times"]),
-            (statements.Statement.is_of, ["self", "number"]),
-        ):
-            parameters = inspect.signature(function).parameters
-            self.assertEqual(list(parameters), names)
-            for parameter in parameters.values():
-                self.assertIs(parameter.kind, inspect.Parameter.POSITIONAL_OR_KEYWORD)
+        for file_name, functions in FUNCTIONS.items():
+            module = importlib.import_module(f"namechains.{file_name}")
+            for name, names in functions.items():
+                with self.subTest(name):
+                    self.check_arguments(getattr(module, name), names)
+        for function, names in METHODS.items():
+            with self.subTest(function):
+                self.check_arguments(function, names)
+
+    def test_arguments_without_end(self):
+        for function in (Book, Book.with_more, Book.without, Names):
+            last = list(inspect.signature(function).parameters.values())[-1]
+            self.assertIs(last.kind, inspect.Parameter.VAR_POSITIONAL)
