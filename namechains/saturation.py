@@ -75,9 +75,9 @@ def _forward_heads(namings, starts, own, behind):
     """Return for each person the states behind it, by what is behind each pair so far."""
     heads = {person: states for person, states in starts.items()}
     for _, naming in namings:
-        person = naming.chain[0]
-        states = (own[person,],) if len(naming.chain) > 1 else behind[naming.person, naming.name]
-        heads[person] = merged(heads.get(person, ()), states)
+        begun = naming.chain[:1]
+        states = behind[naming.person, naming.name] if begun == naming.chain else (own[begun],)
+        heads[begun[0]] = merged(heads.get(begun[0], ()), states)
     return heads
 
 

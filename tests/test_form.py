@@ -1,6 +1,8 @@
-"""The rules of LANGUAGE.md that can be counted: files, imports, sizes, characters (L1, L2, L10, L14, L16, L27)."""
+"""The rules of LANGUAGE.md that can be counted: files, imports, sizes, characters, builtins, methods (L1, L2, L6 to L8,
+L10, L14 to L17, L25, L27)."""
 
 import ast
+import builtins
 import unittest
 import warnings
 from pathlib import Path
@@ -12,6 +14,22 @@ LIBRARY = {
     "math": {"gcd", "lcm", "isqrt", "comb", "perm", "factorial"},
     "itertools": {"product", "combinations", "permutations"},
 }
+
+BUILTINS = set("""
+    len range enumerate zip min max sum abs sorted reversed int str bool bytes list tuple dict set frozenset isinstance
+    ord repr any all divmod iter next map super property staticmethod classmethod Exception ValueError TypeError KeyError
+    IndexError LookupError ZeroDivisionError ArithmeticError OverflowError RuntimeError NotImplementedError
+    AttributeError StopIteration NotImplemented""".split())
+
+METHODS = set("""
+    append clear copy count endswith extend find get index insert isalnum isalpha isdigit islower isspace isupper items
+    join keys ljust lower lstrip partition pop remove replace reverse rfind rjust rpartition rsplit rstrip setdefault
+    split splitlines startswith strip update upper values zfill bit_length add discard __init__""".split())
+
+# L6 and L7 do not have these; generator expressions are left out wherever a class has an __eq__.
+BARRED_NODES = (ast.GeneratorExp, ast.Global, ast.AsyncFunctionDef, ast.Await, ast.Div)
+
+BARRED_NAMES = {"register", "mro", "elements", "open", "input", "law", "version_info", "with_traceback", "add_note"}
 
 
 def sources():
@@ -54,6 +72,36 @@ class Form(unittest.TestCase):
                 if isinstance(node, ast.ImportFrom):
                     known = LIBRARY.get(node.module) or defined_in(trees[node.module])
                     self.assertEqual({alias.name for alias in node.names} - known, set(), name)
+
+    def test_files_do_not_import_from_each_other(self):
+        trees = {f"namechains.{name[:-3]}": ast.parse(text) for name, text in sources().items()}
+        needed = {name: {node.module for node in tree.body if isinstance(node, ast.ImportFrom)} & set(trees)
+                  for name, tree in trees.items()}
+        while needed:
+            free = {name for name in needed if not needed[name]}
+            self.assertTrue(free, needed)
+            needed = {name: needed[name] - free for name in needed if name not in free}
+
+    def test_builtins_methods_and_kinds_of_nodes(self):
+        trees = {name: ast.parse(text) for name, text in sources().items()}
+        own = {node.name for tree in trees.values() for node in ast.walk(tree) if isinstance(node, ast.FunctionDef)}
+        for name, tree in trees.items():
+            for node in ast.walk(tree):
+                self.assertNotIsInstance(node, BARRED_NODES, name)
+                if isinstance(node, ast.Name):
+                    self.assertNotIn(node.id, set(dir(builtins)) - BUILTINS, name)
+                if isinstance(node, ast.Call) and isinstance(node.func, ast.Attribute):
+                    self.assertIn(node.func.attr, METHODS | own, name)
+
+    def test_names_that_are_assigned(self):
+        for name, text in sources().items():
+            tree = ast.parse(text)
+            top = {alias.name for node in tree.body if isinstance(node, ast.ImportFrom) for alias in node.names}
+            top |= {node.name for node in tree.body if isinstance(node, ast.ClassDef)}
+            for node in ast.walk(tree):
+                if isinstance(node, ast.arg) or (isinstance(node, ast.Name) and isinstance(node.ctx, ast.Store)):
+                    assigned = node.arg if isinstance(node, ast.arg) else node.id
+                    self.assertNotIn(assigned, top | set(dir(builtins)) | BARRED_NAMES, name)
 
     def test_python_gives_no_warning(self):
         with warnings.catch_warnings():

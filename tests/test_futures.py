@@ -425,6 +425,10 @@ class NeverPapers(FuturesCase):
             self.check((*right[:2], (*right[2], ("dan", "y", "y"))), False, ("dan", "x"), "zed", closed, 0, kept, book)
             self.check((*right[:2], (*right[2], None)), False, ("dan", "x"), "zed", closed, 0, kept, book)
             self.check((*right[:2], (*right[2], "dd")), False, ("dan", "x"), "zed", closed, 0, kept, book)
+            for pair in (("Dan", "y"), (None, "y"), ("", "y"), (1, "y"), ("dan", ""), ("dan", "y\n"), ("dan", 1), ("d",),
+                         ("dan", ("y",)), (("dan", "y"),), ()):
+                self.check((*right[:2], (pair, *right[2])), False, ("dan", "x"), "zed", closed, 0, kept, book)
+            self.check((*right[:2], (("dan", "y"), *right[2])), True, ("dan", "x"), "zed", closed, 0, kept, book)
             self.check(right, False, ("ann", "x"), "zed", closed, 0, kept, book)
             self.check(right, False, ("dan", "x"), "eve", closed, 0, kept, book)
 
@@ -562,6 +566,13 @@ class KeepApart(FuturesCase):
         self.same(keep_apart(BOOK.on(2), ("fay", "x"), ("zed", "x")), ("fay",))
         self.same(keep_apart(BOOK.on(5), DOCTOR, ("ann", "aunt")), ("ann",))
 
+    def test_persons_who_matter_for_both(self):
+        day = Book(Naming("ann", "x", ("bob",)), Naming("ann", "y", ("dan", "z")), Naming("dan", "z", ("cy",))).on(0)
+        self.same(keep_apart(day, ("ann", "x"), ("ann", "y")), ("ann", "dan"))
+        self.same(keep_apart(day, ("ann", "y"), ("ann", "x")), ("ann", "dan"))
+        self.same(keep_apart(day, ("dan", "z"), ("ann", "x")), ("ann", "dan"))
+        self.same(keep_apart(day, ("ann", "x"), ("dan",)), ("ann",))
+
     def test_a_chain_of_nobody_that_needs_more_persons(self):
         day = Book(Naming("ann", "x", ("bob", "x")), Naming("bob", "x", ("cy", "x")), Naming("dan", "y", ("eve",))).on(0)
         self.same(keep_apart(day, ("ann", "x"), ("dan", "y")), ("ann", "bob", "cy"))
@@ -613,12 +624,27 @@ class ClosedPersons(FuturesCase):
             self.assertIsNone(function.__defaults__)
             with self.assertRaises(TypeError):
                 function(*arguments, True)
+        book = Book(Naming("ann", "x", ("bob",)), Naming("dan", "x", ("cy",)))
+        value = ("never", (("ann", "x", ("bob",)),), ())
+        self.assertIs(is_never_paper(book.on(0), ("ann", "x"), "cy", ["ann"], value), False)
+        self.assertIs(is_never_paper(book.on(0), ("ann", "x"), "cy", ["ann"], value, kept=False), True)
         self.same(deciders(day, DOCTOR, closed), ("ann", "bob"))
         self.same(deciders(day, DOCTOR, closed, kept=False), ("ann",))
         self.assertIsNone(parted(day, ("clinic", "staff"), DOCTOR, closed))
         self.assertIsNotNone(parted(day, ("clinic", "staff"), DOCTOR, closed, kept=False))
         self.same(can_come(day, DOCTOR, "eve", closed), ())
         self.assertNotEqual(can_come(day, DOCTOR, "eve", closed, kept=False), ())
+
+    def test_equal_questions_have_equal_answers(self):
+        for day, closed, kept in list(self.questions())[::7]:
+            again = Book(*day.book.statements).on(day.number)
+            for one, other in itertools.combinations(SOME_CHAINS, 2):
+                answers = [[
+                    parted(asked, one, other, closed, kept=kept), can_come(asked, one, "new", closed, kept=kept),
+                    never_paper(asked, one, "new", closed, kept=kept),
+                    together(asked, [one, other], closed, kept=kept)] for asked in (day, day, again)]
+                self.assertEqual(answers[0], answers[1])
+                self.assertEqual(answers[0], answers[2])
 
     def test_lists_of_chains_stay_as_they_are(self):
         chains = [("zed", "x"), DOCTOR]

@@ -218,6 +218,14 @@ class OfTables(NamesCase):
         self.same(names.names, ("a", "b", "c"))
         self.same(names.least, ("a",))
 
+    def test_words_of_state_0_that_is_met_again(self):
+        names = Names.of_table(((False, (("a", 1), ("d", 0))), (True, (("c", 1), ("e", 2))), (False, (("b", 0),))))
+        self.same(names.persons, ("a", "d"))
+        self.same(names.names, ("a", "b", "c", "d", "e"))
+        names = Names.of_table(((False, (("a", 1), ("d", 0))), (True, ())))
+        self.same(names.persons, ("a", "d"))
+        self.same(names.names, ("a", "d"))
+
     def test_words_of_state_0_that_is_not_met_again(self):
         names = Names.of_table(((False, (("p", 1), ("q", 2))), (True, (("q", 2),)), (True, (("r", 1),))))
         self.same(names.persons, ("p", "q"))

@@ -71,6 +71,13 @@ class Papers(PaperCase):
                     self.assertEqual(paper(BOOK.on(number), chain, person)[0], kind)
                     self.check_paper(BOOK.on(number), chain, person)
 
+    def test_equal_questions_have_equal_answers(self):
+        for book in oracles.random_books(5, 10):
+            for chain, person in ((("ann", "x"), "bob"), (("bob", "x", "y"), "ann")):
+                found = paper(book.on(0), chain, person)
+                self.assertEqual(paper(book.on(0), chain, person), found)
+                self.assertEqual(paper(Book(*book.statements).on(0), chain, person), found)
+
     def test_long_proofs(self):
         words = "abcdefghijklmnopqrstuvw"
         namings = [Naming(words[at], "x", (words[at + 1], "x", "y")) for at in range(10)]
@@ -228,6 +235,9 @@ class NoPapers(PaperCase):
         self.wrong((ROWS[1], ROWS[0], *ROWS[2:]))
         self.wrong((ROWS[0], *ROWS))
         self.wrong((*ROWS[:2], ("bob", "child", ("dan", "zed")), *ROWS[2:]))
+        self.right((*ROWS[:3], ("eve", "uncle", ("dan", "zed"))))
+        self.wrong((*ROWS, ("eve", "uncle", ("dan", "zed"))))
+        self.wrong((*ROWS[:3], ("eve", "uncle", ("dan", "zed")), ROWS[3]))
         self.wrong(((*ROWS[0][:2], ("cy", "bob")), *ROWS[1:]))
         self.wrong(((*ROWS[0][:2], ("bob", "bob", "cy")), *ROWS[1:]))
         self.wrong((*ROWS, ("zed", "x", ())))

@@ -302,6 +302,13 @@ class Loops(SetsCase):
             (False, (("a", 1), ("p", 2))), (True, ()), (False, (("a", 1), ("b", 3))), (False, (("a", 4), ("c", 5))),
             (True, ()), (False, (("a", 3), ("b", 6))), (False, (("a", 7),)), (True, ()))))
 
+    def test_equal_sets_have_equal_loops(self):
+        for names in [ENDLESS, EVEN, *random_sets(25, 20)]:
+            again = Names.of_table(names.table)
+            self.assertEqual(again, names)
+            self.assertEqual(again.loop(), names.loop())
+            self.assertEqual(again.loop(), names.loop())
+
     def test_rings_through_state_0(self):
         self.check_loop(Names.of_table(((False, (("a", 0), ("b", 1))), (True, ()))))
         self.check_loop(Names.of_table(((False, (("a", 1),)), (True, (("a", 0),)))))

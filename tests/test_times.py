@@ -19,7 +19,8 @@ CHILDREN = (("bob", "child", ("dan",)), ("cy", "child", ("dan",)))
 
 # The days of the statements of small books: stretches that touch, overlap, are alike, begin at 0, end at LIMIT.
 SOME_DAYS = [None, (0, 4), (3, 9), (5, 9), (10, 14), (7, 7), (9, LIMIT), (0, 0), (LIMIT, LIMIT)]
-SMALL_BOOKS = oracles.random_books(7, 60, days=SOME_DAYS)
+SMALL_BOOKS = (oracles.random_books(7, 30, days=SOME_DAYS)
+               + oracles.random_books(8, 30, days=SOME_DAYS[1:], persons=("ann", "bob", "cy"), names=("x",)))
 QUESTIONS = [(("ann", "x"), "bob"), (("bob", "x", "y"), "ann"), (("ann", "y"), "cy"), (("cy",), "cy"), (("cy",), "ann")]
 
 
@@ -149,7 +150,7 @@ class Serves(TimesCase):
                 self.check(7, CHAIN, "dan", value, None)
 
     def test_small_books(self):
-        for book in SMALL_BOOKS[:25]:
+        for book in SMALL_BOOKS[::2]:
             numbers = days_by_hand(book)
             for (chain, person), at in itertools.product(QUESTIONS, numbers):
                 value = paper(book.on(at), chain, person)
@@ -199,6 +200,13 @@ class DaysAndTimeline(TimesCase):
         self.check_timeline(book, ("ann", "x"), [
             (0, 2, ()), (3, 4, ("bob",)), (5, 6, ("bob", "cy")), (7, 8, ("bob",)), (9, 9, ("ann", "bob")),
             (10, 12, ("ann",)), (13, LIMIT, ())])
+
+    def test_several_stretches_while_others_come_and_go(self):
+        book = Book(naming("bob", (0, 1)), naming("bob", (5, 9)), naming("cy", (7, 7)), naming("bob", (12, 20)),
+                    naming("cy", (14, 30)), naming("ann", (1, 13)))
+        self.check_days(book, ("ann", "x"), "bob", ((0, 1), (5, 9), (12, 20)))
+        self.check_days(book, ("ann", "x"), "cy", ((7, 7), (14, 30)))
+        self.check_days(book, ("ann", "x"), "ann", ((1, 13),))
 
     def test_statements_that_do_not_matter(self):
         book = Book(naming("bob", (3, 9)), Naming("ann", "y", ("bob",), (5, 6)), Leave("ann", ("bob",), (0, 1), (7, 8)))
@@ -389,7 +397,7 @@ class LastingAndRelay(TimesCase):
         self.same(relay(book.on(8), ("ann", "x"), "bob"), ((8, 21), (22, 30)))
 
     def test_small_books(self):
-        for book, (chain, person) in itertools.product(SMALL_BOOKS[:30], QUESTIONS):
+        for book, (chain, person) in itertools.product(SMALL_BOOKS[::2], QUESTIONS):
             for number in days_by_hand(book)[::2]:
                 expected = self.lasting_by_hand(book, number, chain, person)
                 self.same(lasting(book.on(number), chain, person), expected)
