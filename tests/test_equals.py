@@ -2,7 +2,6 @@
 
 import itertools
 import random
-import unittest
 
 from namechains.books import Book
 from namechains.equals import alike, lean, needless, needless_now, told_apart
@@ -11,6 +10,7 @@ from namechains.meaning import table_of
 from namechains.rewriting import comes_of, meanings
 from namechains.statements import Leave, Naming
 from tests import oracles
+from tests.cases import PlainCase
 
 # Some namings of these books hold on the asked day, some do not.
 SMALL_BOOKS = oracles.random_books(51, 60, days=[None, None, (0, 9), (5, 9), (0, 4)], names=("x", "y"))
@@ -21,21 +21,13 @@ MIXED = Book(Leave("ann", ("bob",), (0, 9)), Naming("ann", "x", ("bob", "y")), N
              Naming("ann", "x", ("cy",), (0, 9)))
 
 
-class EqualsCase(unittest.TestCase):
-    def same(self, found, expected):
-        """Equal, also in the kinds of all parts."""
-        self.assertEqual(found, expected)
-        self.assertIs(type(found), type(expected))
-        self.assertTrue(oracles.are_plain(found))
-
-
 def is_needless(book, index, number):
     """[46]: its chain comes of its person and name by the other namings of the day."""
     one = book[index]
     return comes_of(book.without(index).on(number), (one.person, one.name), one.chain)
 
 
-class Needless(EqualsCase):
+class Needless(PlainCase):
     def check(self, book, number, for_all, for_now, left):
         day = book.on(number)
         self.same(needless(day), for_all)
@@ -116,7 +108,7 @@ class Needless(EqualsCase):
             self.assertLessEqual(set(for_all), set(for_now))
 
 
-class Alike(EqualsCase):
+class Alike(PlainCase):
     def check(self, one, other, expected):
         for found in (alike(one, other), alike(one=one, other=other)):
             if expected is None:
@@ -187,7 +179,7 @@ class Alike(EqualsCase):
                     self.assertEqual(table_of(days[0]), table_of(days[1]))
 
 
-class ToldApart(EqualsCase):
+class ToldApart(PlainCase):
     def by_hand(self, one, other, closed):
         """(which, start, chain): what [47] tells, by the sets of all chains that come."""
         starts = {(naming.person, naming.name) for day in (one, other)

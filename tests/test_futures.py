@@ -2,7 +2,6 @@
 
 import itertools
 import random
-import unittest
 
 from namechains.books import Book
 from namechains.futures import (
@@ -12,6 +11,7 @@ from namechains.limits import LIMIT
 from namechains.rewriting import meanings
 from namechains.statements import Leave, Naming
 from tests import mangled, oracles, samples
+from tests.cases import PlainCase
 
 PERSONS = ("ann", "bob", "cy")
 CHAINS = oracles.all_chains(PERSONS, ("x", "y"), 3)
@@ -95,17 +95,7 @@ def some_futures(day, closed, kept, source, many):
         yield certain + more
 
 
-class FuturesCase(unittest.TestCase):
-    def same(self, found, expected):
-        """Equal, also in the kinds of all parts."""
-        self.assertEqual(found, expected)
-        self.assertIs(type(found), type(expected))
-        self.assertTrue(oracles.are_plain(found))
-
-    def check_chains(self, names, chains):
-        self.assertIsInstance(names, Names)
-        self.same(list(names.ordered()), oracles.in_order(set(chains)))
-
+class FuturesCase(PlainCase):
     def rules_of(self, statements, closed):
         """The rules that statements tell, once it is checked that they may be told."""
         self.assertIs(type(statements), tuple)
@@ -127,11 +117,11 @@ class Frontiers(FuturesCase):
     def test_bare_and_open_chains_alone(self):
         for closed in CLOSED:
             for kept in (True, False):
-                self.check_chains(frontier(BOOK.on(5), ("ann",), closed, kept=kept), [("ann",)])
-                self.check_chains(frontier(BOOK.on(5), ("nobody",), closed, kept=kept), [("nobody",)])
-                self.check_chains(frontier(BOOK.on(5), ("eve", "x"), closed, kept=kept), [("eve", "x")])
+                self.check_listed(frontier(BOOK.on(5), ("ann",), closed, kept=kept), [("ann",)])
+                self.check_listed(frontier(BOOK.on(5), ("nobody",), closed, kept=kept), [("nobody",)])
+                self.check_listed(frontier(BOOK.on(5), ("eve", "x"), closed, kept=kept), [("eve", "x")])
         for closed in ([], ["bob"], ["clinic", "bob", "eve"], ["zed"]):
-            self.check_chains(frontier(BOOK.on(5), DOCTOR, closed), [DOCTOR])
+            self.check_listed(frontier(BOOK.on(5), DOCTOR, closed), [DOCTOR])
 
     def test_closed_persons_go_on(self):
         for kept in (True, False):
@@ -140,19 +130,19 @@ class Frontiers(FuturesCase):
                 (["clinic", "ann", "cy", "eve"], [("eve",), ("bob", "friend")]),
                 (("bob", "clinic", "ann"), [("eve",), ("cy",)]), (["ann", "bob"], [("clinic", "staff")]),
             ):
-                self.check_chains(frontier(BOOK.on(5), DOCTOR, closed, kept=kept), expected)
-        self.check_chains(frontier(BOOK.on(2), DOCTOR, ["ann", "bob", "clinic"]), [("eve",)])
-        self.check_chains(frontier(BOOK.on(2), ("bob", "friend"), ["bob"]), [])
-        self.check_chains(frontier(BOOK.on(5), ("zed", "x"), ["zed"]), [])
-        self.check_chains(frontier(day=BOOK.on(5), chain=DOCTOR, closed=["ann"], kept=True), [("clinic", "staff")])
+                self.check_listed(frontier(BOOK.on(5), DOCTOR, closed, kept=kept), expected)
+        self.check_listed(frontier(BOOK.on(2), DOCTOR, ["ann", "bob", "clinic"]), [("eve",)])
+        self.check_listed(frontier(BOOK.on(2), ("bob", "friend"), ["bob"]), [])
+        self.check_listed(frontier(BOOK.on(5), ("zed", "x"), ["zed"]), [])
+        self.check_listed(frontier(day=BOOK.on(5), chain=DOCTOR, closed=["ann"], kept=True), [("clinic", "staff")])
 
     def test_circles_and_chains_without_end(self):
         day = Book(Naming("ann", "x", ("ann", "x", "y")), Naming("ann", "x", ("bob",)), Naming("ann", "x", ("ann", "x")),
                    Naming("bob", "y", ("bob", "z"))).on(0)
         found = frontier(day, ("ann", "x"), ["ann"])
         self.same(found.table, ((False, (("bob", 1),)), (True, (("y", 1),))))
-        self.check_chains(frontier(day, ("ann", "x"), ["bob"]), [("ann", "x")])
-        self.check_chains(frontier(day, ("ann", "x"), ["ann", "bob"]), [("bob",)])
+        self.check_listed(frontier(day, ("ann", "x"), ["bob"]), [("ann", "x")])
+        self.check_listed(frontier(day, ("ann", "x"), ["ann", "bob"]), [("bob",)])
 
     def test_small_books(self):
         for day, closed, kept in self.questions():

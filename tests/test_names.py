@@ -2,12 +2,12 @@
 
 import itertools
 import random
-import unittest
 
 from namechains.errors import InvalidChain, InvalidTable
 from namechains.languages import Names
 from namechains.limits import LIMIT
 from tests import mangled, oracles, samples, tables
+from tests.cases import PlainCase
 
 EMPTY = ((False, ()),)
 
@@ -37,21 +37,11 @@ WRONG_TABLES = [
 ]
 
 
-def in_order(chains):
-    return sorted(set(chains), key=lambda chain: (len(chain), chain))
-
-
-class NamesCase(unittest.TestCase):
-    def same(self, found, expected):
-        """Equal, also in the kinds of all parts."""
-        self.assertEqual(found, expected)
-        self.assertIs(type(found), type(expected))
-        self.assertTrue(oracles.are_plain(found))
-
+class NamesCase(PlainCase):
     def check_chains(self, names, chains):
         """The set is finite and has these chains alone."""
         self.assertIsInstance(names, Names)
-        expected = in_order(chains)
+        expected = oracles.in_order(set(chains))
         self.same(list(names.ordered()), expected)
         self.same(names.size, len(expected))
         self.same(names.least, expected[0] if expected else None)

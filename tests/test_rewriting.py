@@ -2,7 +2,6 @@
 
 import itertools
 import random
-import unittest
 
 from namechains.books import Book
 from namechains.languages import Names
@@ -12,6 +11,7 @@ from namechains.rewriting import (
     backward, becomes, between, comes_of, forward, is_complete, meanings, names_of, settled)
 from namechains.statements import Leave, Naming
 from tests import oracles, tables
+from tests.cases import PlainCase
 
 EXAMPLE = Book(Naming("ann", "doctor", ("bob", "friend")), Naming("bob", "friend", ("bob", "friend", "friend")),
                Naming("bob", "friend", ("cy",))).on(0)
@@ -22,26 +22,10 @@ EVEN = Names.of_table(((False, (("ann", 1), ("bob", 1))), (True, (("x", 2), ("y"
 
 PERSONS = ("ann", "bob", "cy")
 SHORT = oracles.all_chains(PERSONS, ("x", "y"), 4)
-SMALL_BOOKS = [book for book in oracles.random_books(31, 40)]
+SMALL_BOOKS = oracles.random_books(31, 40)
 
 
-class RewritingCase(unittest.TestCase):
-    def same(self, found, expected):
-        """Equal, also in the kinds of all parts."""
-        self.assertEqual(found, expected)
-        self.assertIs(type(found), type(expected))
-        self.assertTrue(oracles.are_plain(found))
-
-    def check_chains(self, names, chains):
-        """The set is finite and has these chains alone."""
-        self.assertIsInstance(names, Names)
-        self.same(list(names.ordered()), oracles.in_order(set(chains)))
-
-    def check_rules(self, day, rules):
-        self.assertEqual(oracles.rules_on(day.book, day.number), rules)
-
-
-class Examples(RewritingCase):
+class Examples(PlainCase):
     def test_examples(self):
         found = meanings(EXAMPLE, ("ann", "doctor"))
         self.same(found.table, (
@@ -49,7 +33,7 @@ class Examples(RewritingCase):
             (True, (("friend", 3),)), (True, ())))
         self.same([found.size, found.count(0), found.count(1), found.count(300)], [None, 1, 3, 2])
         self.assertIs(("cy", "friend", "friend") in found, True)
-        self.check_chains(names_of(EXAMPLE, "cy"), [("cy",), ("ann", "doctor"), ("bob", "friend")])
+        self.check_listed(names_of(EXAMPLE, "cy"), [("cy",), ("ann", "doctor"), ("bob", "friend")])
         self.same(settled(EXAMPLE, found).table, ((False, (("cy", 1),)), (True, (("friend", 1),))))
         self.same(found.difference(Names(("cy",))), (0, ("ann", "doctor")))
 
@@ -59,16 +43,16 @@ class Examples(RewritingCase):
         self.same(becomes(day=EXAMPLE, chain=("ann", "doctor")), [("bob", "friend")])
         self.assertIs(comes_of(day=EXAMPLE, one=("ann", "doctor"), other=("cy",)), True)
         self.assertEqual(forward(day=EXAMPLE, names=one), found)
-        self.check_chains(backward(day=EXAMPLE, names=Names(("cy",))), [("cy",), ("ann", "doctor"), ("bob", "friend")])
+        self.check_listed(backward(day=EXAMPLE, names=Names(("cy",))), [("cy",), ("ann", "doctor"), ("bob", "friend")])
         self.assertEqual(names_of(day=EXAMPLE, person="cy"), backward(EXAMPLE, Names(("cy",))))
         self.assertEqual(settled(day=EXAMPLE, names=found), found.headed(("cy",)))
         self.assertIs(is_complete(day=EXAMPLE, names=found), True)
         self.assertIs(is_complete(day=EXAMPLE, names=one), False)
-        self.check_chains(between(day=EXAMPLE, one=("ann", "doctor"), other=("cy",)),
+        self.check_listed(between(day=EXAMPLE, one=("ann", "doctor"), other=("cy",)),
                           [("ann", "doctor"), ("bob", "friend"), ("cy",)])
 
 
-class Becomes(RewritingCase):
+class Becomes(PlainCase):
     def test_each_once_in_order(self):
         day = Book(
             Naming("ann", "x", ("bob", "y", "y")), Naming("ann", "x", ("cy",)), Naming("ann", "y", ("dan",)),
@@ -105,7 +89,7 @@ class Becomes(RewritingCase):
                 self.same(becomes(book.on(0), chain), oracles.in_order(oracles.become(rules, chain)))
 
 
-class ComesOf(RewritingCase):
+class ComesOf(PlainCase):
     def test_itself(self):
         for day in (EXAMPLE, Book().on(LIMIT)):
             for chain in (("ann",), ("zed",), ("ann", "doctor"), ("zed", "x", "y"), ("ann",) + ("doctor",) * 8):
@@ -134,12 +118,12 @@ class ComesOf(RewritingCase):
                 self.assertIs(comes_of(book.on(0), chain, (person,)), person in means(book.on(0), chain))
 
 
-class Sets(RewritingCase):
+class Sets(PlainCase):
     def test_sets_without_chains(self):
         for day in (EXAMPLE, Book().on(0)):
-            self.check_chains(forward(day, Names()), [])
-            self.check_chains(backward(day, Names()), [])
-            self.check_chains(settled(day, Names()), [])
+            self.check_listed(forward(day, Names()), [])
+            self.check_listed(backward(day, Names()), [])
+            self.check_listed(settled(day, Names()), [])
             self.assertIs(is_complete(day, Names()), True)
 
     def test_a_day_without_namings(self):
@@ -150,16 +134,16 @@ class Sets(RewritingCase):
                 self.assertEqual(backward(day, names), names)
                 self.assertEqual(settled(day, names), names)
                 self.assertIs(is_complete(day, names), True)
-            self.check_chains(meanings(day, ("ann", "x")), [("ann", "x")])
-            self.check_chains(names_of(day, "ann"), [("ann",)])
-            self.check_chains(between(day, ("ann", "x"), ("ann", "x")), [("ann", "x")])
-            self.check_chains(between(day, ("ann", "x"), ("bob",)), [])
+            self.check_listed(meanings(day, ("ann", "x")), [("ann", "x")])
+            self.check_listed(names_of(day, "ann"), [("ann",)])
+            self.check_listed(between(day, ("ann", "x"), ("ann", "x")), [("ann", "x")])
+            self.check_listed(between(day, ("ann", "x"), ("bob",)), [])
 
     def test_words_that_are_not_in_the_book(self):
-        self.check_chains(meanings(EXAMPLE, ("zed",)), [("zed",)])
-        self.check_chains(meanings(EXAMPLE, ("zed", "doctor")), [("zed", "doctor")])
-        self.check_chains(names_of(EXAMPLE, "zed"), [("zed",)])
-        self.check_chains(between(EXAMPLE, ("zed", "x"), ("zed", "x")), [("zed", "x")])
+        self.check_listed(meanings(EXAMPLE, ("zed",)), [("zed",)])
+        self.check_listed(meanings(EXAMPLE, ("zed", "doctor")), [("zed", "doctor")])
+        self.check_listed(names_of(EXAMPLE, "zed"), [("zed",)])
+        self.check_listed(between(EXAMPLE, ("zed", "x"), ("zed", "x")), [("zed", "x")])
         self.assertEqual(backward(EXAMPLE, Names(("cy", "zed"))),
                          Names(("cy", "zed"), ("bob", "friend", "zed"), ("ann", "doctor", "zed")))
         self.assertEqual(forward(EXAMPLE, Names(("zed",), ("zed", "x"))), Names(("zed",), ("zed", "x")))
@@ -168,23 +152,23 @@ class Sets(RewritingCase):
         day = Book(Naming("ann", "x", ("ann",)), Naming("ann", "x", ("bob", "y"))).on(0)
         chain = ("ann",) + ("x",) * 8
         kept = [("ann",) + ("x",) * many for many in range(9)]
-        self.check_chains(meanings(day, chain), kept + [("bob", "y") + ("x",) * many for many in range(8)])
-        self.check_chains(backward(day, Names(chain)) & Names(*kept), [chain])
+        self.check_listed(meanings(day, chain), kept + [("bob", "y") + ("x",) * many for many in range(8)])
+        self.check_listed(backward(day, Names(chain)) & Names(*kept), [chain])
         self.assertIs(names_of(day, "ann").size, None)
-        self.check_chains(between(day, chain, ("ann", "x")), kept[1:])
+        self.check_listed(between(day, chain, ("ann", "x")), kept[1:])
 
     def test_circles(self):
         day = Book(Naming("ann", "x", ("bob", "y")), Naming("bob", "y", ("cy", "x")), Naming("cy", "x", ("ann", "x")),
                    Naming("dan", "z", ("dan", "z"))).on(0)
         circle = [("ann", "x"), ("bob", "y"), ("cy", "x")]
         for chain in circle:
-            self.check_chains(meanings(day, chain), circle)
-            self.check_chains(backward(day, Names(chain)), circle)
+            self.check_listed(meanings(day, chain), circle)
+            self.check_listed(backward(day, Names(chain)), circle)
             self.assertIs(is_complete(day, Names(*circle)), True)
             self.assertIs(is_complete(day, Names(*circle) - Names(chain)), False)
-            self.check_chains(settled(day, Names(*circle, ("ann", "y"))), [("ann", "y")])
-        self.check_chains(meanings(day, ("dan", "z")), [("dan", "z")])
-        self.check_chains(names_of(day, "ann"), [("ann",)])
+            self.check_listed(settled(day, Names(*circle, ("ann", "y"))), [("ann", "y")])
+        self.check_listed(meanings(day, ("dan", "z")), [("dan", "z")])
+        self.check_listed(names_of(day, "ann"), [("ann",)])
 
     def test_chains_that_grow_without_end(self):
         day = Book(Naming("ann", "x", ("ann", "x", "y", "z"))).on(0)
@@ -200,7 +184,7 @@ class Sets(RewritingCase):
     def test_every_name_ends(self):
         day = Book(Naming("ann", "x", ("ann",)), Naming("ann", "y", ("ann",))).on(0)
         self.same(names_of(day, "ann").table, ((False, (("ann", 1),)), (True, (("x", 1), ("y", 1)))))
-        self.check_chains(meanings(day, ("ann", "x", "y", "z")),
+        self.check_listed(meanings(day, ("ann", "x", "y", "z")),
                           [("ann", "x", "y", "z"), ("ann", "y", "z"), ("ann", "z")])
 
     def test_infinite_sets(self):
@@ -242,7 +226,7 @@ class Sets(RewritingCase):
                     self.assertEqual(names.table, tables.least(names.table))
 
 
-class StepByStep(RewritingCase):
+class StepByStep(PlainCase):
     """Each told set against what is found step by step, by way of chains of at most eleven words."""
 
     def test_forward(self):
@@ -287,7 +271,7 @@ class StepByStep(RewritingCase):
             rules = oracles.rules_on(book, 0)
             chains = source.sample(SHORT, 12)
             names = Names(*chains)
-            self.check_chains(settled(day, names), [chain for chain in chains if not oracles.become(rules, chain)])
+            self.check_listed(settled(day, names), [chain for chain in chains if not oracles.become(rules, chain)])
             is_whole = all(oracles.become(rules, chain) <= set(chains) for chain in chains)
             self.assertIs(is_complete(day, names), is_whole)
             self.assertIs(is_complete(day, forward(day, names)), True)

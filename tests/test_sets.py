@@ -2,12 +2,12 @@
 
 import itertools
 import random
-import unittest
 
 from namechains.errors import InvalidCount
 from namechains.languages import Names
 from namechains.limits import LIMIT
 from tests import oracles, samples, tables
+from tests.cases import PlainCase
 
 NONE = Names()
 FINITE = Names(("ann",), ("ann", "x"), ("bob", "x", "y"))
@@ -24,13 +24,7 @@ def random_sets(seed, many):
     return [Names.of_table(tables.random_table(source, source.randint(1, 5))) for _ in range(many)]
 
 
-class SetsCase(unittest.TestCase):
-    def same(self, found, expected):
-        """Equal, also in the kinds of all parts."""
-        self.assertEqual(found, expected)
-        self.assertIs(type(found), type(expected))
-        self.assertTrue(oracles.are_plain(found))
-
+class SetsCase(PlainCase):
     def check_least(self, names):
         """The table is of the told form and the least one."""
         self.assertIsInstance(names, Names)

@@ -1,7 +1,6 @@
 """[25] to [29]: for how long papers serve, and on which days persons are meant; [2] as far as it speaks of them."""
 
 import itertools
-import unittest
 
 from namechains.books import Book
 from namechains.limits import LIMIT
@@ -9,6 +8,7 @@ from namechains.papers import is_paper, paper
 from namechains.statements import Leave, Naming
 from namechains.times import days_of, lasting, paper_for, relay, serves, timeline
 from tests import mangled, oracles, samples
+from tests.cases import PlainCase
 
 BOOK = Book(Naming("ann", "doctor", ("bob",), (0, 9)), Naming("ann", "doctor", ("cy",), (5, 20)),
             Naming("bob", "child", ("dan",)), Naming("cy", "child", ("dan",)))
@@ -53,15 +53,7 @@ def is_served(book, chain, person, first, last):
     return None if person in oracles.meant(any_of_it, chain) else "no"
 
 
-class TimesCase(unittest.TestCase):
-    def same(self, found, expected):
-        """Equal, also in the kinds of all parts."""
-        self.assertEqual(found, expected)
-        self.assertIs(type(found), type(expected))
-        self.assertTrue(oracles.are_plain(found))
-
-
-class Examples(TimesCase):
+class Examples(PlainCase):
     def test_examples(self):
         self.same(days_of(BOOK, CHAIN, "dan"), ((0, 20),))
         self.same(lasting(BOOK.on(7), CHAIN, "dan"), ((0, 9), (5, 20)))
@@ -82,7 +74,7 @@ class Examples(TimesCase):
         self.same(relay(day=day, chain=CHAIN, person="dan"), ((7, 20),))
 
 
-class Serves(TimesCase):
+class Serves(PlainCase):
     def check(self, number, chain, person, value, expected, book=BOOK):
         found = serves(book.on(number), chain, person, value)
         if expected is None:
@@ -164,7 +156,7 @@ class Serves(TimesCase):
                     self.check(number, chain, person, value, expected, book)
 
 
-class DaysAndTimeline(TimesCase):
+class DaysAndTimeline(PlainCase):
     def check_days(self, book, chain, person, expected):
         self.same(days_of(book, chain, person), expected)
 
@@ -258,7 +250,7 @@ class DaysAndTimeline(TimesCase):
             self.assertTrue(oracles.are_plain(parts, stretches))
 
 
-class PaperFor(TimesCase):
+class PaperFor(PlainCase):
     def check(self, book, chain, person, stretch, kind):
         found = paper_for(book, chain, person, stretch)
         self.assertEqual(kind, is_served(book, chain, person, *stretch))
@@ -310,7 +302,7 @@ class PaperFor(TimesCase):
                     self.check(book, chain, person, (first, last), is_served(book, chain, person, first, last))
 
 
-class LastingAndRelay(TimesCase):
+class LastingAndRelay(PlainCase):
     def lasting_by_hand(self, book, number, chain, person):
         """All pairs of days that begin or end something, tried one by one."""
         numbers = days_by_hand(book)
