@@ -50,18 +50,18 @@ def combined(one, other, in_one, in_both, in_other):
         at, beside = pairs[len(states)]
         here = {} if at is None else ones[at]
         there = {} if beside is None else others[beside]
-        moves = []
+        leads = []
         for word in sorted([*here, *[word for word in there if word not in here]]):
             pair = (here.get(word), there.get(word))
             if (pair[0] is not None or in_other) and (pair[1] is not None or in_one):
                 if pair not in number:
                     number[pair] = len(pairs)
                     pairs.append(pair)
-                moves.append((word, number[pair]))
+                leads.append((word, number[pair]))
         is_here = at is not None and one[at][0]
         is_there = beside is not None and other[beside][0]
         is_in = (in_both if is_there else in_one) if is_here else is_there and in_other
-        states.append((is_in, tuple(moves)))
+        states.append((is_in, tuple(leads)))
     return tuple(states)
 
 

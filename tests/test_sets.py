@@ -49,6 +49,15 @@ class Operators(SetsCase):
             self.check_chains(one, other, CHAINS)
             self.assertEqual((one.table, other.table), tables_before)
 
+    def test_both_sets_stay_as_they_were(self):
+        for one, other in itertools.product([*SETS, *random_sets(26, 6)], repeat=2):
+            before = [(names.table, names.size, names.least, names.persons, names.names) for names in (one, other)]
+            for found in (one | other, one & other, one - other):
+                self.assertIsInstance(found, Names)
+            after = [(names.table, names.size, names.least, names.persons, names.names) for names in (one, other)]
+            self.same(after, before)
+            self.assertEqual([one | other, one & other, one - other], [one | other, one & other, one - other])
+
     def test_random_sets(self):
         sets = random_sets(21, 16)
         chains = [row for many in range(1, 7) for row in itertools.product("ab", repeat=many)]
