@@ -4,6 +4,7 @@ from namechains.checks import is_integer_in
 from namechains.errors import InvalidDay, InvalidStatement, OutOfRange, Repeated, TooMany
 from namechains.limits import LIMIT, MAX_STATEMENTS
 from namechains.statements import Leave, Naming
+from namechains.subjects import chains_of
 
 
 class Book:
@@ -120,10 +121,7 @@ def _check_statements(earlier, statements):
 
 def _chains_of(statement):
     """Return the chains of the statement."""
-    if isinstance(statement, Naming):
-        return (statement.chain,)
-    subject = statement.subject
-    return (subject,) if isinstance(subject[0], str) else subject[1]
+    return (statement.chain,) if isinstance(statement, Naming) else chains_of(statement.subject)
 
 
 def _persons_of(statements):

@@ -1,11 +1,11 @@
 """What holds in every future that open persons can bring about, and what in some (section 5)."""
 
-from namechains.checks import is_word
 from namechains.languages import Names, Told
 from namechains.machines import only_bare, table_read
 from namechains.meaning import meant_by, means, table_by
-from namechains.openings import certain_namings, does_open, new_path, open_chain, opening_pairs, statements_for
-from namechains.proofs import are_rows, is_covered, rows_of_table, table_of_rows
+from namechains.openings import (
+    are_kept, are_pairs, certain_namings, does_open, new_path, open_chain, opening_pairs, statements_for)
+from namechains.proofs import are_rows, rows_of_table, table_of_rows
 from namechains.rewriting import meanings
 from namechains.saturation import forward_machine
 from namechains.tables import table_of_chains
@@ -59,16 +59,14 @@ def sure(day, chain, closed):
 
 def is_never_paper(day, chain, person, closed, value, *, kept=True):
     """Tell whether the value, any value, is a right never paper: the chain means the person in no future."""
-    if not _is_never_form(value):
+    if not isinstance(value, tuple) or len(value) != 3 or value[0] != "never":
         return False
-    table = table_of_rows(value[1])
-    pairs = value[2]
-    for _, naming in certain_namings(day, closed, kept):
-        if not is_covered(table, naming):
-            return False
-        if (naming.person in closed and (naming.person, naming.name) not in pairs
-                and does_open(table, pairs, closed, naming.chain)):
-            return False
+    _, rows, pairs = value
+    if not are_rows(rows) or not are_pairs(pairs):
+        return False
+    table = table_of_rows(rows)
+    if not are_kept(table, pairs, certain_namings(day, closed, kept), closed):
+        return False
     return not does_open(table, pairs, closed, chain) and person not in meant_by(table, chain)
 
 
@@ -116,20 +114,6 @@ def keep_apart(day, one, other):
 def _machine_of(day, chain, closed, kept):
     """Return the machine that reads all chains that come of the chain by certain namings."""
     return forward_machine(certain_namings(day, closed, kept), table_of_chains([chain]))
-
-
-def _is_never_form(value):
-    """Tell whether the value has the form of a never paper."""
-    if not isinstance(value, tuple) or len(value) != 3 or value[0] != "never":
-        return False
-    _, rows, pairs = value
-    if not are_rows(rows) or not isinstance(pairs, tuple) or not all([_is_pair(pair) for pair in pairs]):
-        return False
-    return len(set(pairs)) == len(pairs)
-
-
-def _is_pair(value):
-    return isinstance(value, tuple) and len(value) == 2 and is_word(value[0]) and is_word(value[1])
 
 
 def _common(rows):

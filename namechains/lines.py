@@ -48,3 +48,18 @@ def ways_of(lines, places_of, chain):
                     further[reached] = (*places, place)
         ways = further
     return ways
+
+
+def lines_for(lines, places):
+    """Return (lines, moved): a tuple of those of the lines that these places need, and where each old place is now."""
+    needed = set()
+    queue = list(places)
+    while queue:
+        place = queue.pop()
+        if place not in needed:
+            needed.add(place)
+            queue.extend(lines[place][4])
+    kept = sorted(needed)
+    moved = {place: at for at, place in enumerate(kept)}
+    left = [(*lines[place][:4], tuple([moved[other] for other in lines[place][4]])) for place in kept]
+    return tuple(left), moved

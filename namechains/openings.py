@@ -3,7 +3,9 @@
 Namings are lists of tuples (index, naming); a table is a dict from pairs (person, name) to persons.
 """
 
+from namechains.checks import is_word
 from namechains.lines import namings_of
+from namechains.proofs import is_covered
 from namechains.statements import Naming
 
 LETTERS = "abcdefghijklmnopqrstuvwxyz"
@@ -36,6 +38,26 @@ def does_open(table, pairs, closed, chain):
     return False
 
 
+def are_pairs(value):
+    """Tell whether the value is a tuple of different tuples (person, name)."""
+    if not isinstance(value, tuple) or not all([_is_pair(pair) for pair in value]):
+        return False
+    return len(set(value)) == len(value)
+
+
+def are_kept(table, pairs, namings, closed):
+    """Tell whether the namings keep to a table and to pairs of a never paper [44].
+
+    The table has all that they tell, and the pairs have all those of closed persons whose chains open."""
+    for _, naming in namings:
+        if not is_covered(table, naming):
+            return False
+        if (naming.person in closed and (naming.person, naming.name) not in pairs
+                and does_open(table, pairs, closed, naming.chain)):
+            return False
+    return True
+
+
 def open_chain(machine, closed):
     """Return one of the shortest open chains that the machine reads; there is one."""
     persons = [person for person in sorted(list(machine.heads)) if person not in closed]
@@ -66,11 +88,11 @@ def new_path(chain, used):
 
     Each person on the way is new, so it is met by chains alone from which the whole chain comes. For a bare chain
     there is nothing to state."""
-    persons = [chain[0], *_new_words(len(chain) - 1, used)]
+    persons = [chain[0], *new_words(len(chain) - 1, used)]
     return tuple([Naming(persons[at], name, (persons[at + 1],)) for at, name in enumerate(chain[1:])])
 
 
-def _new_words(count, used):
+def new_words(count, used):
     """Return so many words that are not in used, shorter ones first."""
     found = []
     words = [""]
@@ -78,3 +100,7 @@ def _new_words(count, used):
         words = [word + letter for word in words for letter in LETTERS]
         found.extend([word for word in words if word not in used])
     return found[:count]
+
+
+def _is_pair(value):
+    return isinstance(value, tuple) and len(value) == 2 and is_word(value[0]) and is_word(value[1])

@@ -1,6 +1,6 @@
 """Papers for yes and for no: whether a chain means a person (section 3)."""
 
-from namechains.lines import lines_of, namings_of, places_of_pairs, ways_of
+from namechains.lines import lines_for, lines_of, namings_of, places_of_pairs, ways_of
 from namechains.meaning import meant_by, table_by
 from namechains.proofs import are_places, are_right_lines, are_rows, is_covered, led_to, rows_of_table, table_of_rows
 
@@ -36,17 +36,8 @@ def no_paper(namings, chain, person):
 
 def _paper_of_needed(lines, places):
     """Return the yes paper with these places and with only those of the lines that they need."""
-    needed = set()
-    queue = list(places)
-    while queue:
-        place = queue.pop()
-        if place not in needed:
-            needed.add(place)
-            queue.extend(lines[place][4])
-    kept = sorted(needed)
-    moved = {place: at for at, place in enumerate(kept)}
-    left = [(*lines[place][:4], tuple([moved[other] for other in lines[place][4]])) for place in kept]
-    return ("yes", tuple(left), tuple([moved[place] for place in places]))
+    left, moved = lines_for(lines, places)
+    return ("yes", left, tuple([moved[place] for place in places]))
 
 
 def _is_yes_paper(day, chain, person, value):

@@ -1,6 +1,7 @@
 """Writes the texts of statements (section 10)."""
 
 from namechains.limits import LIMIT
+from namechains.subjects import is_share
 
 
 def naming_text(person, name, chain, days):
@@ -19,7 +20,7 @@ def _chain_text(chain):
 
 
 def _subject_text(subject):
-    if isinstance(subject[0], str):
+    if not is_share(subject):
         return _chain_text(subject)
     number, chains = subject
     listed = " / ".join([_chain_text(chain) for chain in chains])

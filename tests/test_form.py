@@ -103,6 +103,74 @@ class Form(unittest.TestCase):
                     assigned = node.arg if isinstance(node, ast.arg) else node.id
                     self.assertNotIn(assigned, top | set(dir(builtins)) | BARRED_NAMES, name)
 
+    def test_attributes_and_methods_have_names_of_their_own(self):
+        # L5 and L18 allow some names to be both in different classes; here none is.
+        attributes, methods = set(), set()
+        for text in sources().values():
+            for node in ast.walk(ast.parse(text)):
+                if isinstance(node, ast.ClassDef):
+                    methods |= {one.name for one in node.body if isinstance(one, ast.FunctionDef)}
+                if isinstance(node, ast.Attribute) and isinstance(node.ctx, ast.Store):
+                    attributes.add(node.attr)
+        self.assertEqual(attributes & methods, set())
+
+    def test_generators_have_names_of_their_own(self):
+        generators, others, values = set(), set(), set()
+        for text in sources().values():
+            tree = ast.parse(text)
+            called = {id(node.func) for node in ast.walk(tree) if isinstance(node, ast.Call)}
+            for node in ast.walk(tree):
+                if isinstance(node, ast.FunctionDef):
+                    is_generator = any(isinstance(one, (ast.Yield, ast.YieldFrom)) for one in ast.walk(node))
+                    (generators if is_generator else others).add(node.name)
+                if isinstance(node, ast.Attribute) and id(node) not in called:
+                    values.add(node.attr)
+        self.assertEqual(generators & (others | values | METHODS), set())
+
+    def test_stars(self):
+        for name, text in sources().items():
+            for node in ast.walk(ast.parse(text)):
+                if isinstance(node, ast.Subscript) and isinstance(node.slice, ast.Tuple):
+                    self.assertFalse(any(isinstance(one, ast.Starred) for one in node.slice.elts), name)
+                if isinstance(node, ast.Call):
+                    stars = [one for one in node.args if isinstance(one, ast.Starred)]
+                    self.assertTrue(all(isinstance(one.value, ast.Name) for one in stars), f"{name} {node.lineno}")
+                    plain = (ast.Name, ast.Attribute, ast.Constant)
+                    self.assertTrue(not stars or all(isinstance(one, (ast.Starred, *plain)) for one in node.args),
+                                    f"{name} {node.lineno}")
+
+    def test_sets_stand_where_they_may(self):
+        for name, text in sources().items():
+            tree = ast.parse(text)
+            above = {id(child): node for node in ast.walk(tree) for child in ast.iter_child_nodes(node)}
+            for node in ast.walk(tree):
+                is_call = isinstance(node, ast.Call) and isinstance(node.func, ast.Name) and node.func.id == "set"
+                if is_call or isinstance(node, (ast.Set, ast.SetComp)):
+                    place = above[id(node)]
+                    is_asked = isinstance(place, ast.Compare) or (
+                        isinstance(place, ast.Call) and place.func.id in ("sorted", "len"))
+                    self.assertTrue(is_asked or isinstance(place, ast.Assign), f"{name} {node.lineno}")
+
+    def test_stored_sets_are_used_plainly(self):
+        for name, text in sources().items():
+            for function in [node for node in ast.walk(ast.parse(text)) if isinstance(node, ast.FunctionDef)]:
+                self.check_stored_sets(name, function)
+
+    def check_stored_sets(self, name, function):
+        """Each name of a set is assigned once, asked with in, len and sorted, and changed by add and discard."""
+        above = {id(child): node for node in ast.walk(function) for child in ast.iter_child_nodes(node)}
+        stored = [node.targets[0].id for node in ast.walk(function) if isinstance(node, ast.Assign) and (
+            isinstance(node.value, (ast.Set, ast.SetComp)) or (
+                isinstance(node.value, ast.Call) and isinstance(node.value.func, ast.Name) and node.value.func.id == "set"))]
+        for node in ast.walk(function):
+            if isinstance(node, ast.Name) and node.id in stored:
+                place = above[id(node)]
+                is_plain = isinstance(place, (ast.Compare, ast.If, ast.While, ast.Assign)) or (
+                    isinstance(place, ast.Attribute) and place.attr in ("add", "discard")) or (
+                    isinstance(place, ast.Call) and place.func.id in ("sorted", "len"))
+                self.assertTrue(is_plain, f"{name} {node.lineno}")
+        self.assertEqual(len(stored), len(set(stored)), name)
+
     def test_python_gives_no_warning(self):
         with warnings.catch_warnings():
             warnings.simplefilter("error")

@@ -6,9 +6,11 @@ import inspect
 import unittest
 from pathlib import Path
 
+from namechains.areas import Area
 from namechains.books import Book
 from namechains.languages import Names
 from namechains.statements import Leave, Naming, Statement
+from namechains.ways import ShortestWay, Way
 from tests.test_errors import ERRORS
 
 PACKAGE = Path(__file__).resolve().parent.parent / "namechains"
@@ -30,6 +32,14 @@ CLASSES = {
         "Names": ["__init__", "of_table", "__or__", "__and__", "__sub__", "__eq__", "__contains__", "__bool__",
                   "is_within", "table", "size", "least", "persons", "names", "count", "ordered", "headed", "difference",
                   "loop"],
+    },
+    "ways": {
+        "Way": ["__init__", "day", "chain", "goal", "length", "chain_at", "index_at", "part", "chains"],
+        "ShortestWay": ["__init__", "day", "chain", "goal", "length", "chain_at", "index_at", "part", "chains"],
+    },
+    "areas": {
+        "Area": ["__init__", "whole", "rows", "size", "least", "__or__", "__and__", "__sub__", "__eq__", "__bool__",
+                 "__contains__", "is_within", "on", "days_for", "walk"],
     },
 }
 
@@ -56,14 +66,41 @@ FUNCTIONS = {
     "equals": {
         "needless": "day", "needless_now": "day", "lean": "day", "alike": "one other", "told_apart": "one other closed",
     },
+    "ways": {
+        "steps": "day chain person * names", "count_shortest": "day chain person",
+        "count_ways": "day chain person length", "longest": "day chain person", "space": "day chain person",
+        "since": "day chain person", "needed": "day chain person", "needed_pairs": "day chain person",
+        "spared": "day chain person",
+    },
+    "rights": {
+        "may": "day owner group tag", "needs": "day group tag", "may_alone": "day owner tag",
+        "passes_of": "day owner person tag", "least_groups": "day owner tag most", "least_blocks": "day owner tag most",
+        "right_paper": "day owner group tag", "is_right_paper": "day owner group tag value",
+    },
+    "areas": {
+        "area": "book owner group", "pass_area": "book owner person least", "unlike": "one other owner group",
+        "unlike_group": "one other owner tag most",
+    },
+    "outlooks": {
+        "ever": "day owner group tag closed", "never_right": "day owner group tag closed",
+        "is_never_right": "day owner group tag closed value", "ever_area": "book owner group closed",
+        "always": "day owner group tag closed", "openers": "day owner group tag most",
+        "keepers": "day owner group tag most",
+    },
 }
 
 METHODS = {
     Naming: "person name chain days", Leave: "person subject tags days times", Statement.is_of: "self number",
     Book.on: "self day", Book.changes: "self", Names.of_table: "table", Names.is_within: "self other",
     Names.count: "self number", Names.ordered: "self", Names.headed: "self chain", Names.difference: "self other",
-    Names.loop: "self",
+    Names.loop: "self", Area.whole: "", Area.is_within: "self other", Area.on: "self day", Area.days_for: "self tag",
+    Area.walk: "self", ShortestWay: "day chain person",
 }
+METHODS |= {getattr(one, name): f"self {names}".strip() for one in (Way, ShortestWay) for name, names in (
+    ("chain_at", "number"), ("index_at", "number"), ("part", "first last"), ("chains", ""))}
+
+# What stands in the place of a default, where there is one.
+DEFAULTS = {"kept": True, "days": None, "times": None, "names": None, "closed": (), "count": 1}
 
 
 def body_of(file_name):
@@ -89,10 +126,11 @@ class Interface(unittest.TestCase):
         self.assertEqual([(one.name, one.kind == kinds[1]) for one in parameters], expected)
         for parameter in parameters:
             self.assertIn(parameter.kind, kinds)
-            if parameter.name == "kept":
-                self.assertIs(parameter.default, True)
-            elif parameter.name not in ("days", "times"):
-                self.assertIs(parameter.default, inspect.Parameter.empty)
+            if parameter.default is not inspect.Parameter.empty:
+                self.assertIs(parameter.default, DEFAULTS[parameter.name])
+            else:
+                self.assertNotIn(parameter.name, ("kept", "days", "times", "count"))
+                self.assertFalse(parameter.kind == kinds[1] and parameter.name in DEFAULTS)
 
     def test_errors_are_defined_in_their_file(self):
         self.assertEqual(set(ERRORS) - set(classes_of("errors.py")), set())
@@ -125,6 +163,6 @@ class Interface(unittest.TestCase):
                 self.check_arguments(function, names)
 
     def test_arguments_without_end(self):
-        for function in (Book, Book.with_more, Book.without, Names):
+        for function in (Book, Book.with_more, Book.without, Names, Way, Area):
             last = list(inspect.signature(function).parameters.values())[-1]
             self.assertIs(last.kind, inspect.Parameter.VAR_POSITIONAL)
