@@ -6,7 +6,7 @@ from namechains.grants import grants_for, grants_of, met_by
 from namechains.limits import LIMIT
 from namechains.meaning import table_of
 from namechains.rights import least_groups, may
-from namechains.stretches import edges_of, has_number, is_area_part, joined, rows_of_parts, rows_sifted, size_of
+from namechains.stretches import edges_of, has_number, is_area_part, rows_of_parts, rows_sifted, size_of, united
 from namechains.subjects import ENDLESS, number_of
 
 
@@ -85,7 +85,7 @@ class Area:
 
     def days_for(self, tag):
         """Return the days of the tag: the longest stretches, ascending."""
-        return joined([days for days, tags in self._rows if has_number(tags, tag)])
+        return united([days for days, tags in self._rows if has_number(tags, tag)])
 
     def walk(self):
         """Tell for each row tuples (days, tags), tags one after the other each of its stretches of tags."""

@@ -28,7 +28,7 @@ def edges_of(stretches):
     return sorted(set([edge for first, last in stretches for edge in (first, last + 1)]))
 
 
-def joined(stretches):
+def united(stretches):
     """Return the set of the numbers that one of the stretches has at least."""
     found = []
     for first, last in sorted(stretches):
@@ -53,7 +53,7 @@ def sifted(one, other, in_one, in_both, in_other):
         is_there = beside < len(other) and other[beside][0] <= first
         if (in_both if is_there else in_one) if is_here else is_there and in_other:
             found.append((first, behind - 1))
-    return joined(found)
+    return united(found)
 
 
 def rows_of_parts(parts):
@@ -61,7 +61,7 @@ def rows_of_parts(parts):
     edges = edges_of([days for days, _ in parts])
     strips = []
     for first, behind in zip(edges, edges[1:]):
-        tags = joined([tags for days, tags in parts if days[0] <= first <= days[1]])
+        tags = united([tags for days, tags in parts if days[0] <= first <= days[1]])
         strips.append(((first, behind - 1), tags))
     return rows_of_strips(strips)
 

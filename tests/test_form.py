@@ -114,6 +114,16 @@ class Form(unittest.TestCase):
                     attributes.add(node.attr)
         self.assertEqual(attributes & methods, set())
 
+    def test_properties_are_no_methods(self):
+        plain, properties = set(), set()
+        for text in sources().values():
+            for node in ast.walk(ast.parse(text)):
+                for one in node.body if isinstance(node, ast.ClassDef) else []:
+                    if isinstance(one, ast.FunctionDef):
+                        is_property = any(ast.unparse(by) == "property" for by in one.decorator_list)
+                        (properties if is_property else plain).add(one.name)
+        self.assertEqual(properties & (plain | METHODS), set())
+
     def test_generators_have_names_of_their_own(self):
         generators, others, values = set(), set(), set()
         for text in sources().values():

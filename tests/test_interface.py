@@ -8,7 +8,10 @@ from pathlib import Path
 
 from namechains.areas import Area
 from namechains.books import Book
+from namechains.desks import Desk
+from namechains.halls import CountingHall, GuardedCountingHall, GuardedHall, Hall
 from namechains.languages import Names
+from namechains.logs import LoggedHall, View
 from namechains.statements import Leave, Naming, Statement
 from namechains.ways import ShortestWay, Way
 from tests.test_errors import ERRORS
@@ -41,6 +44,18 @@ CLASSES = {
         "Area": ["__init__", "whole", "rows", "size", "least", "__or__", "__and__", "__sub__", "__eq__", "__bool__",
                  "__contains__", "is_within", "on", "days_for", "walk"],
     },
+    "halls": {
+        "Hall": ["__init__", "book", "moment", "undone", "depth", "state", "take_back", "undo", "redo", "attempt",
+                 "explore", "book_at", "spans", "changed"],
+        "GuardedHall": ["__init__", "state", "take_back"],
+        "CountingHall": ["__init__", "counts"],
+        "GuardedCountingHall": ["__init__"],
+    },
+    "logs": {
+        "LoggedHall": ["__init__", "logs", "state", "take_back"],
+        "View": ["__init__", "book", "lines", "closed", "logs", "__eq__"],
+    },
+    "desks": {"Desk": ["__init__", "hall", "say"]},
 }
 
 # The functions of each file with their arguments; those behind * by name only.
@@ -87,6 +102,13 @@ FUNCTIONS = {
         "always": "day owner group tag closed", "openers": "day owner group tag most",
         "keepers": "day owner group tag most",
     },
+    "logs": {
+        "fork": "one other", "joined": "one other", "is_sure": "view chain person day",
+        "is_thinkable": "view chain person day", "enough": "view chain person day",
+    },
+    "texts": {
+        "read_statement": "text", "write_book": "book", "read_book": "text", "write_names": "names", "read_names": "text",
+    },
 }
 
 METHODS = {
@@ -94,8 +116,12 @@ METHODS = {
     Book.on: "self day", Book.changes: "self", Names.of_table: "table", Names.is_within: "self other",
     Names.count: "self number", Names.ordered: "self", Names.headed: "self chain", Names.difference: "self other",
     Names.loop: "self", Area.whole: "", Area.is_within: "self other", Area.on: "self day", Area.days_for: "self tag",
-    Area.walk: "self", ShortestWay: "day chain person",
+    Area.walk: "self", ShortestWay: "day chain person", Hall: "book", CountingHall: "book",
+    LoggedHall: "book * closed", View: "logs", Desk: "", Desk.say: "self row", Hall.book_at: "self number",
+    Hall.spans: "self chain person day", Hall.changed: "self first second day",
 }
+METHODS |= {getattr(one, name): f"self {names}" for one in (Hall, LoggedHall) for name, names in (
+    ("undo", "count"), ("redo", "count"), ("attempt", "action"), ("explore", "action"))}
 METHODS |= {getattr(one, name): f"self {names}".strip() for one in (Way, ShortestWay) for name, names in (
     ("chain_at", "number"), ("index_at", "number"), ("part", "first last"), ("chains", ""))}
 
@@ -127,7 +153,8 @@ class Interface(unittest.TestCase):
         for parameter in parameters:
             self.assertIn(parameter.kind, kinds)
             if parameter.default is not inspect.Parameter.empty:
-                self.assertIs(parameter.default, DEFAULTS[parameter.name])
+                self.assertEqual(parameter.default, DEFAULTS[parameter.name])
+                self.assertIs(type(parameter.default), type(DEFAULTS[parameter.name]))
             else:
                 self.assertNotIn(parameter.name, ("kept", "days", "times", "count"))
                 self.assertFalse(parameter.kind == kinds[1] and parameter.name in DEFAULTS)
@@ -163,6 +190,14 @@ class Interface(unittest.TestCase):
                 self.check_arguments(function, names)
 
     def test_arguments_without_end(self):
-        for function in (Book, Book.with_more, Book.without, Names, Way, Area):
+        for function in (Book, Book.with_more, Book.without, Names, Way, Area, *[
+                getattr(one, name) for one in (Hall, GuardedHall, CountingHall, GuardedCountingHall, LoggedHall)
+                for name in ("state", "take_back")]):
             last = list(inspect.signature(function).parameters.values())[-1]
             self.assertIs(last.kind, inspect.Parameter.VAR_POSITIONAL)
+        for made in (GuardedHall, GuardedCountingHall):
+            kinds = [(one.name, one.kind, one.default) for one in inspect.signature(made).parameters.values()]
+            self.assertEqual(kinds, [
+                ("book", inspect.Parameter.POSITIONAL_OR_KEYWORD, inspect.Parameter.empty),
+                ("guards", inspect.Parameter.VAR_POSITIONAL, inspect.Parameter.empty),
+                ("closed", inspect.Parameter.KEYWORD_ONLY, ())])
