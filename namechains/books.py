@@ -7,14 +7,31 @@ from namechains.statements import Leave, Naming
 from namechains.subjects import chains_of
 
 
+class Grown:
+    """A Book and statements that stand behind its own, for the package itself: Book takes it in the place of them all.
+
+    They are statements, unlike one another and those of the Book, and not too many."""
+
+    def __init__(self, book, statements):
+        self.begun = book
+        self.further = statements
+
+
 class Book:
     """Statements in an order, all unlike; never changed."""
 
     def __init__(self, *statements):
-        _check_statements((), statements)
-        self._statements = statements
-        self._persons = _persons_of(statements)
-        self._names = _names_of(statements)
+        if len(statements) == 1 and isinstance(statements[0], Grown):
+            begun = statements[0].begun
+            further = statements[0].further
+            self._statements = begun.statements + further
+            self._persons = _merged(begun.persons, _persons_of(further))
+            self._names = _merged(begun.names, _names_of(further))
+        else:
+            _check_statements((), statements)
+            self._statements = statements
+            self._persons = _merged((), _persons_of(statements))
+            self._names = _merged((), _names_of(statements))
 
     @property
     def statements(self):
@@ -48,8 +65,7 @@ class Book:
     def with_more(self, *statements):
         """Return a Book with these statements behind its own."""
         _check_statements(self._statements, statements)
-        longer = self._statements + statements
-        return Book(*longer)
+        return Book(Grown(self, statements))
 
     def without(self, *indexes):
         """Return a Book without the statements of these indexes."""
@@ -114,9 +130,14 @@ def _check_statements(earlier, statements):
             raise InvalidStatement(index)
     if len(earlier) + len(statements) > MAX_STATEMENTS:
         raise TooMany(MAX_STATEMENTS)
+    # Statements are equal exactly if their texts are.
+    texts = {}
+    for statement in earlier:
+        texts[statement.text] = True
     for index, statement in enumerate(statements):
-        if statement in earlier + statements[:index]:
+        if statement.text in texts:
             raise Repeated(index)
+        texts[statement.text] = True
 
 
 def _chains_of(statement):
@@ -125,14 +146,19 @@ def _chains_of(statement):
 
 
 def _persons_of(statements):
-    """Return all persons that occur in the statements, ascending."""
+    """Return all persons that occur in the statements, in any order."""
     stating = [statement.person for statement in statements]
-    named = [chain[0] for statement in statements for chain in _chains_of(statement)]
-    return tuple(sorted(set(stating + named)))
+    return stating + [chain[0] for statement in statements for chain in _chains_of(statement)]
 
 
 def _names_of(statements):
-    """Return all names that occur in the statements, ascending."""
+    """Return all names that occur in the statements, in any order."""
     stated = [statement.name for statement in statements if isinstance(statement, Naming)]
-    used = [name for statement in statements for chain in _chains_of(statement) for name in chain[1:]]
-    return tuple(sorted(set(stated + used)))
+    return stated + [name for statement in statements for chain in _chains_of(statement) for name in chain[1:]]
+
+
+def _merged(known, words):
+    """Return the words of both, ascending; the known ones are."""
+    if all([word in known for word in words]):
+        return known
+    return tuple(sorted(set([*known, *words])))

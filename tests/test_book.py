@@ -196,6 +196,56 @@ class LongerBooks(BookCase):
         self.check_error(TooMany, {"limit": 24}, lambda: Book(*MANY[:23]).with_more(MANY[0], MANY[0]))
 
 
+class BooksPutTogether(BookCase):
+    # Alike but for their days; and statements of both kinds with words that come early and late.
+    DAYS = [Naming("ann", "x", ("bob", "x", "y"), (number, LIMIT)) for number in range(24)]
+    KINDS = [Naming(chr(122 - at), chr(97 + at), ("m", chr(122 - at) + "o"), (at, at)) if at % 2 else
+             Leave(chr(97 + at), (1, (("m" * (at // 3 + 1), chr(98 + at) + "n"), ("bob",))), (0, at)) for at in range(24)]
+
+    def check_like(self, book, statements):
+        """The book is the one that Book makes of all statements at once."""
+        at_once = Book(*statements)
+        self.check_book(book, *statements)
+        self.assertEqual((book.persons, book.names), (at_once.persons, at_once.names))
+        self.assertTrue(are_plain(book.persons, book.names))
+        self.assertIs(book == at_once, True)
+        self.assertIs(at_once == book, True)
+        self.assertEqual(book.changes(), at_once.changes())
+        self.assertEqual(book.on(5), at_once.on(5))
+        self.assertEqual((book.on(5).namings, book.on(5).leaves), (at_once.on(5).namings, at_once.on(5).leaves))
+
+    def test_one_statement_at_a_time(self):
+        for statements in (self.DAYS, self.KINDS, self.KINDS[::-1], MANY[:24]):
+            book = Book()
+            for many, statement in enumerate(statements, start=1):
+                longer = book.with_more(statement)
+                self.check_like(longer, statements[:many])
+                self.check_like(book, statements[:many - 1])
+                book = longer
+            self.check_error(TooMany, {"limit": 24}, lambda: book.with_more(DOCTOR))
+            self.check_error(TooMany, {"limit": 24}, lambda: book.with_more(statements[0]))
+
+    def test_several_at_a_time(self):
+        book = Book(*self.KINDS[:5])
+        for first, last in ((5, 5), (5, 9), (9, 10), (10, 24)):
+            book = book.with_more(*self.KINDS[first:last])
+            self.check_like(book, self.KINDS[:last])
+
+    def test_each_earlier_one_is_known(self):
+        for statements in (self.DAYS, self.KINDS):
+            book = Book()
+            for many, statement in enumerate(statements[:23], start=1):
+                book = book.with_more(statement)
+                for earlier in statements[:many]:
+                    self.check_error(Repeated, {"index": 0}, lambda: book.with_more(again(earlier)))
+
+    def test_from_shorter_books(self):
+        book = Book(*self.KINDS).without(3, 0, 23).with_more(self.KINDS[0]).with_more(DOCTOR)
+        self.check_like(book, [*self.KINDS[1:3], *self.KINDS[4:23], self.KINDS[0], DOCTOR])
+        self.check_error(Repeated, {"index": 0}, lambda: book.without(1).with_more(again(DOCTOR)))
+        self.check_like(book.without(1).with_more(book[1]), [book[0], *book.statements[2:], book[1]])
+
+
 class ShorterBooks(BookCase):
     def test_without(self):
         book = Book(DOCTOR, LEAVE, CHILD, LATER)
