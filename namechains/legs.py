@@ -72,7 +72,8 @@ def rows_between(legs, chain, person):
     """Return for each name of the chain a list of all its legs on ways to the person; None without such ways."""
     reached = [[chain[0]]]
     for name in chain[1:]:
-        reached.append(sorted({further for one in reached[-1] for further in legs.ends.get((one, name), ())}))
+        behind = sorted({further for one in reached[-1] for further in legs.ends.get((one, name), ())})
+        reached.append(behind)
     if person not in reached[-1]:
         return None
     rows = []

@@ -43,11 +43,14 @@ class Future:
         grants = grants_for(grants_of(prospect.today, prospect.meant, ()), tag)
         self.sure = met_by(grants, {person: 0 for person in group}, ())
         self.stated = []
+        # Pairs (person, passes) for which all is stated that is needed.
+        self.provided = {}
 
     def let(self, person, passes):
         """State what is needed for the person, who can be met with these passes, to be met with them."""
-        if self.sure.meets(person, passes):
+        if self.sure.meets(person, passes) or (person, passes) in self.provided:
             return
+        self.provided[person, passes] = True
         if person not in self.prospect.shut:
             self._state(Leave(person, (self.group[0],), (self.tag, self.tag)))
             return
@@ -99,7 +102,8 @@ def barring(prospect, group, grants, pairs, covers):
         for pair in _pairs_on(prospect.meant, chain):
             found[pair[0]] = True
             behind = [naming.chain for _, naming in prospect.certain if (naming.person, naming.name) == pair]
-            chains.extend([further for further in behind if further not in chains])
+            unseen = [further for further in behind if further not in chains]
+            chains.extend(unseen)
     return sorted(list(found))
 
 

@@ -30,13 +30,6 @@ class Stop(Exception):
 
 
 class HallCase(PlainCase):
-    def check_error(self, error, name, value, action):
-        with self.assertRaises(error) as caught:
-            action()
-        self.assertIs(type(caught.exception), error)
-        self.assertIs(type(getattr(caught.exception, name)), type(value))
-        self.assertEqual(getattr(caught.exception, name), value)
-
     def state_of(self, hall):
         return (hall.book, hall.moment, hall.undone, hall.depth,
                 [hall.book_at(number) for number in range(hall.moment + 1)])

@@ -22,13 +22,6 @@ FAR_LENGTH = sum(4 ** at for at in range(22))
 
 
 class WayCase(PlainCase):
-    def check_error(self, error, name, value, action):
-        with self.assertRaises(error) as caught:
-            action()
-        self.assertIs(type(caught.exception), error)
-        self.assertIs(type(getattr(caught.exception, name)), type(value))
-        self.assertEqual(getattr(caught.exception, name), value)
-
     def check_way(self, way, day, chains, indexes):
         """The way passes these chains by the namings with these indexes."""
         self.assertIsInstance(way, Way)

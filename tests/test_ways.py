@@ -190,6 +190,23 @@ class Numbers(WaysCase):
         self.assertGreater(2 * 22 ** 23, 10 ** 30)
         self.same(count_shortest(day, ("ann", "x"), "bob"), 2)
 
+    def test_shorter_ways_through_other_persons(self):
+        # By bob it takes three more rewritings, by cy one, in three ways; either of them may come first.
+        for first, second in (("bob", "cy"), ("cy", "bob")):
+            day = Book(Naming("ann", "x", (first,)), Naming("ann", "x", (second,)), Naming("bob", "y", ("bob", "z", "z")),
+                       Naming("bob", "z", ("bob",)), Naming("bob", "z", ("dan",)),
+                       *[Naming("cy", "y", ("dan",), (0, last)) for last in (1, 2, 3)]).on(0)
+            self.same([steps(day, ("ann", "x", "y"), "dan"), count_shortest(day, ("ann", "x", "y"), "dan")], [2, 3])
+            self.same([count_ways(day, ("ann", "x", "y"), "dan", length) for length in range(6)], [0, 0, 3, 0, 1, 0])
+            self.same(longest(day, ("ann", "x", "y"), "dan"), 4)
+
+    def test_equally_short_ways_through_other_persons(self):
+        day = Book(Naming("ann", "x", ("bob",)), Naming("ann", "x", ("cy",)), Naming("ann", "x", ("bob",), (0, 1)),
+                   Naming("bob", "y", ("dan",)), Naming("cy", "y", ("dan",)), Naming("cy", "y", ("dan",), (0, 1)),
+                   Naming("eve", "u", ("ann", "x", "y"))).on(0)
+        self.same([count_shortest(day, chain, "dan") for chain in (("ann", "x", "y"), ("eve", "u"))], [4, 4])
+        self.same(count_ways(day, ("eve", "u"), "dan", 3), 4)
+
     def test_sums_that_reach_it(self):
         # Numbers just below the bound stay what they are.
         ends = [Naming("ann", "b", ("ann",), (0, last)) for last in range(10)]
@@ -249,6 +266,26 @@ class Space(WaysCase):
                 self.check_not_meant(person, lambda: steps(day, chain, person, names=names))
             if found <= 20:
                 self.assertGreaterEqual(steps(day, chain, person, names=found), steps(day, chain, person))
+
+    def test_names_that_wait_behind_wide_ones(self):
+        wide = [Naming("ann", "d", ("ann",)), Naming("ann", "c", ("ann", "d", "d", "d", "d"))]
+        for chain, expected in ((("ann", "d", "c"), 4), (("ann", "c", "d"), 5), (("ann", "d", "d", "c"), 4),
+                                (("ann", "c", "d", "d"), 6), (("ann", "d", "c", "d"), 5)):
+            day = Book(Naming("ann", "a", chain), Naming("bob", "b", ("ann", "a", "a", "a")), *wide).on(0)
+            self.same(space(day, chain, "ann"), expected)
+            self.same(space(day, ("ann", "a"), "ann"), expected)
+            self.same(space(day, ("ann", "a", "d"), "ann"), expected + 1)
+            self.same(space(day, ("bob", "b"), "ann"), expected + 2)
+
+    def test_denser_books(self):
+        source = random.Random(67)
+        for _ in range(40):
+            day = oracles.random_book(source, 12, persons=("ann", "bob"), names=("x", "y", "z")).on(0)
+            for chain, person in itertools.product((("ann", "x"), ("bob", "y", "z"), ("ann", "z", "z", "y")), ("ann", "bob")):
+                if is_meant(day, chain, person):
+                    found = space(day, chain, person)
+                    self.check_not_meant(person, lambda: steps(day, chain, person, names=found - 1))
+                    self.assertGreaterEqual(steps(day, chain, person, names=found), steps(day, chain, person))
 
     def test_chains_of_eight_names(self):
         day = BOOK.on(0)
