@@ -181,6 +181,21 @@ class Form(unittest.TestCase):
                 self.assertTrue(is_plain, f"{name} {node.lineno}")
         self.assertEqual(len(stored), len(set(stored)), name)
 
+    def test_tries(self):
+        # L6, L19: what is caught are own errors; what is done at last is to give names and attributes what names have.
+        own = defined_in(ast.parse(sources()["errors.py"]))
+        for name, text in sources().items():
+            for node in ast.walk(ast.parse(text)):
+                if isinstance(node, ast.Try):
+                    self.assertLessEqual({ast.unparse(one.type) for one in node.handlers}, own, name)
+                    for last in node.finalbody:
+                        self.assertIsInstance(last, ast.Assign, name)
+                        self.assertIsInstance(last.targets[0], (ast.Name, ast.Attribute), name)
+                        self.assertIsInstance(last.value, (ast.Name, ast.Attribute), name)
+                if isinstance(node, ast.Raise) and node.exc is not None:
+                    self.assertIsInstance(node.exc, ast.Call, name)
+                    self.assertIn(ast.unparse(node.exc.func), own | {"TypeError"}, name)
+
     def test_python_gives_no_warning(self):
         with warnings.catch_warnings():
             warnings.simplefilter("error")

@@ -62,6 +62,10 @@ class Changes(HallCase):
             hall.take_back(FOUR)
             self.check_hall(hall, Book(TWO, ONE), 5, 0)
 
+    def test_made_by_name(self):
+        for made in (Hall, GuardedHall, CountingHall, GuardedCountingHall):
+            self.check_hall(made(book=BOOK), BOOK, 0, 0)
+
     def test_without_arguments_each_is_a_change(self):
         for make in MAKERS:
             hall = make(BOOK)

@@ -225,7 +225,7 @@ class NoPapers(PaperCase):
                        ((0, 5, (1,), ()),), ((0, 5, (2,), ()),), ((0, 5, (3,), ()),), ((0, 5, (-1,), ()),),
                        ((0, 5, (), ("Dan",)),), ((0, 5, (), "dan"),), ((False, 5, (), ("dan",)),), ((3, 5, (), ()),),
                        ((1, 5, (), ()),), ((9, 5, (), ()),), ((None, 5, (), ()),), ((0, 5, (), ("dan",), ()),),
-                       (*COVERS, (5, 1, (), ())), (*COVERS, (6, 1, (), ())), (*COVERS, (0, 1, (), ())), (*COVERS, None)):
+                       (*COVERS, (3, 4, (), ())), (*COVERS, (3, 9, (), ())), (*COVERS, (5, 1, (), ())), (*COVERS, (6, 1, (), ())), (*COVERS, (0, 1, (), ())), (*COVERS, None)):
             self.check_no(ROWS, PAIRS, covers, False)
         self.check_no(ROWS, (*PAIRS, ("gus", 3)), (*COVERS, (6, 3, (), ())), False)
         for at in range(len(DOWN)):

@@ -92,6 +92,7 @@ class ShortestWays(WayCase):
     def test_the_example(self):
         way = ShortestWay(DAY, HALF, "ann")
         self.same([way.length, way.chain_at(1), way.goal], [3, ("ann", "one", "one"), ("ann",)])
+        self.same([way.chain_at(number=number) for number in (0, 3)], [HALF, ("ann",)])
         self.assertIsInstance(way, ShortestWay)
         self.assertTrue(issubclass(ShortestWay, Way))
 
