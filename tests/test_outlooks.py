@@ -247,6 +247,25 @@ class Areas(OutlookCase):
                 for number, tag in itertools.product(numbers, repeat=2):
                     self.assertIs((number, tag) in found, ever(book.on(number), "ann", ["dan", "cy"], tag, closed) is not None)
 
+    def test_always_by_hand(self):
+        book = Book(leave("ann", ("bob", "x")), Naming("bob", "x", ("cy",)), leave("cy", ("dan",)))
+        for closed, group, expected in ((["ann", "bob"], ["cy"], True), (["ann"], ["cy"], False), (["bob", "cy"], ["cy"], False),
+                                        (["ann", "bob"], ["dan"], False), (["cy", "bob", "ann"], ["dan"], True),
+                                        (["cy", "ann"], ["dan"], False), ([], ["ann"], True)):
+            self.assertIs(always(book.on(0), "ann", group, 0, closed), expected)
+
+    def test_always_in_dense_books(self):
+        source = random.Random(117)
+        found = {True: 0, False: 0}
+        for _ in range(60):
+            book = right_oracles.random_book(source, 10, (None,), ("ann", "bob", "cy"), ("x",))
+            for closed in (["ann"], ["ann", "cy"], ["bob", "ann"]):
+                left = Book(*[one for one in book.statements if one.person in closed])
+                expected = right_oracles.may(left, 0, "ann", ["cy"], 4)
+                self.assertIs(always(book.on(0), "ann", ["cy"], 4, closed), expected)
+                found[expected, right_oracles.may(book, 0, "ann", ["cy"], 4)] = True
+        self.assertIn((False, True), found)
+
     def test_always(self):
         for book in books(114, 60):
             for closed, owner in itertools.product(CLOSED, ("ann", "bob")):
@@ -293,6 +312,37 @@ class LeastSets(OutlookCase):
 
             self.same(openers(book.on(0), "ann", ["zed"], 4, 3), right_oracles.least_of(persons, 3, is_opener))
             self.same(keepers(book.on(0), "ann", ["zed"], 4, 3), right_oracles.least_of(persons, 3, is_keeper))
+
+    def test_persons_on_the_ways_of_namings(self):
+        # Whoever is met on the way can let the chain mean somebody else; dan's y comes back to cy's x.
+        book = Book(leave("ann", ("cy", "x")), Naming("cy", "x", ("dan", "y")), Naming("dan", "y", ("eve",)),
+                    Naming("dan", "y", ("cy", "x")), Naming("fay", "x", ("gus", "x")))
+        self.same(openers(book.on(0), "ann", ["zed"], 0, 3), [("ann",), ("cy",), ("dan",), ("eve",)])
+        self.same(keepers(book.on(0), "ann", ["zed"], 0, 3), [])
+        both = Book(leave("ann", ("cy", "x"), ("fay", "x"), many=2), *book.statements[1:])
+        self.same(openers(both.on(0), "ann", ["zed"], 0, 3), [("ann",), *itertools.product(("cy", "dan", "eve"), ("fay", "gus"))])
+
+    def test_a_group_that_is_covered(self):
+        # Bob stands for one of both chains; another one has to come, and with passes 0 it is one of the group.
+        for times, expected in ((None, [("ann",), ("cy",)]), (1, [("ann",), ("cy",)]), (0, [("ann",)])):
+            book = Book(leave("ann", ("bob",), ("cy", "x"), many=2, times=times), Naming("cy", "x", ("bob",)))
+            self.same(openers(book.on(0), "ann", ["bob"], 0, 3), expected)
+
+    def test_dense_books(self):
+        source = random.Random(118)
+        sizes = {}
+        for at in range(50):
+            names = ("x",) if at % 2 else ("x", "y")
+            book = right_oracles.random_book(source, 12, (None,), ("ann", "bob", "cy", "dan", "eve"), names)
+            persons = {*book.persons, "ann"}
+            for group in (["bob"], ["zed"], ["cy", "dan"]):
+                def is_opener(some):
+                    return right_oracles.can_meet(book, 0, "ann", group, 4, [one for one in persons if one not in some])
+
+                expected = right_oracles.least_of(persons, 2, is_opener)
+                self.same(openers(book.on(0), "ann", group, 4, 2), expected)
+                sizes[max([0, *map(len, expected)])] = True
+        self.assertEqual(sorted(sizes), [0, 1, 2])
 
     def test_the_empty_set(self):
         self.same(openers(BOOK.on(7), "ann", ["dan"], 16, 1), [()])
