@@ -7,7 +7,7 @@ from namechains.openings import does_open, new_words, open_chain, opening_pairs,
 from namechains.saturation import forward_machine
 from namechains.searches import is_part
 from namechains.statements import Leave
-from namechains.subjects import ENDLESS, chains_of, given
+from namechains.subjects import chains_of, given
 from namechains.tables import table_of_chains
 
 

@@ -73,6 +73,12 @@ class Form(unittest.TestCase):
                     known = LIBRARY.get(node.module) or defined_in(trees[node.module])
                     self.assertEqual({alias.name for alias in node.names} - known, set(), name)
 
+    def test_imports_are_used(self):
+        for name, text in sources().items():
+            tree = ast.parse(text)
+            imported = {one.name for node in tree.body if isinstance(node, ast.ImportFrom) for one in node.names}
+            self.assertLessEqual(imported, {node.id for node in ast.walk(tree) if isinstance(node, ast.Name)}, name)
+
     def test_files_do_not_import_from_each_other(self):
         trees = {f"namechains.{name[:-3]}": ast.parse(text) for name, text in sources().items()}
         needed = {name: {node.module for node in tree.body if isinstance(node, ast.ImportFrom)} & set(trees)

@@ -6,7 +6,6 @@ import random
 from namechains.books import Book
 from namechains.futures import (
     can_come, deciders, frontier, is_never_paper, keep_apart, must_close, never_paper, parted, sure, together)
-from namechains.languages import Names
 from namechains.limits import LIMIT
 from namechains.rewriting import meanings
 from namechains.statements import Leave, Naming
